@@ -1,0 +1,1 @@
+"""A registry of treaties between states: treatyregistry.registry.answers(calls) answers a list of calls."""
