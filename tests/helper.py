@@ -4,11 +4,25 @@ from treatyregistry.registry import answers
 
 NAMES = (
     "rt_start", "rt_treaty", "rt_article", "rt_offer", "rt_unoffer", "rt_joiners", "rt_waits", "rt_first",
-    "rt_conclude", "rt_accede", "rt_leave", "rt_reserve", "rt_unreserve", "rt_object",
+    "rt_conclude", "rt_accede", "rt_leave", "rt_reserve", "rt_unreserve", "rt_object", "rt_accept", "rt_favour",
+    "rt_unfavour", "rt_part", "rt_members", "rt_between", "rt_applies", "rt_rule", "rt_takes", "rt_table", "rt_told",
+    "rt_back", "rt_again", "rt_state",
 )
 NUMBERS = {name: number for number, name in enumerate(NAMES)}
 
 GREATEST = 4294967295
+
+PAIRS = [(i, j) for i in range(6) for j in range(6) if i != j]
+
+# All that calls that only ask can tell of a registry. Of what isn't there they tell that it isn't.
+ASKING = (
+    [(name, t) for name in ("rt_told", "rt_members", "rt_joiners", "rt_waits", "rt_first") for t in range(4)]
+    + [("rt_between", t, i, j) for t in range(4) for i, j in PAIRS]
+    + [("rt_applies", t, i, j, a) for t in range(4) for i, j in PAIRS for a in range(4)]
+    + [(name, i, j, s) for name in ("rt_rule", "rt_takes") for i, j in PAIRS for s in range(4)]
+    + [("rt_table", s) for s in range(4)]
+    + [("rt_state",)]
+)
 
 
 def flat(calls):
@@ -31,7 +45,9 @@ def split(given):
 
 def ask(calls):
     """What is answered of each call of a line, a list each."""
-    return split(answers(flat(calls)))
+    numbers = flat(calls)
+    assert len(calls) <= 1000 and len(numbers) <= 6000, "no such line is ever handed in"
+    return split(answers(numbers))
 
 
 def last(calls):
@@ -46,14 +62,41 @@ def concluded(members, articles=1, t=0):
     return calls + [("rt_conclude", t)]
 
 
+def started(states):
+    """A whole line's beginning: 2 to 6 states, those behind the fourth parted from state 0 without treaties."""
+    return [("rt_start", min(states, 4))] + [("rt_part", 0, 0)] * (states - 4)
+
+
 def signed(states, members, articles=1):
     """A whole line's beginning: so many states, and treaty 0 concluded with these members."""
-    return [("rt_start", states)] + concluded(members, articles)
+    return started(states) + concluded(members, articles)
+
+
+def treaty(t, articles, members):
+    """Calls that make treaty t, with these articles (subject, how much), and conclude it with these members."""
+    calls = [("rt_treaty", 2)] + [("rt_article", t, s, x) for s, x in articles]
+    return calls + [("rt_offer", t, i, 0, 0) for i in members] + [("rt_conclude", t)]
+
+
+def asked(before):
+    """What all calls that ask answer behind these."""
+    return ask(before + ASKING)[len(before):]
+
+
+def looked(before):
+    """The same, but for how many changes can be taken back and done again."""
+    told = asked(before)
+    return told[:-1] + [told[-1][:4]]
+
+
+def steps(before):
+    """How many changes can be taken back and how many done again behind these calls."""
+    return tuple(last(before + [("rt_state",)])[4:])
 
 
 def probe(states, treaties):
-    """Calls that show what calls 0 to 13 can show of a registry, all but the offers one by one."""
-    calls = []
+    """Calls that bring about what asking doesn't tell: who reserved what, objects and favours, all but the offers."""
+    calls = [("rt_favour", i, j) for i in range(states) for j in range(states)]
     for t in range(treaties):
         calls += [("rt_joiners", t), ("rt_waits", t), ("rt_first", t)]
         # Who reserved what: a member that reserved article a is refused it a second time.
@@ -82,7 +125,9 @@ def probe_offer(states, t, i):
 
 
 def seen(before, states, treaties):
-    """All that can be seen of the registry behind these calls."""
-    probes = [probe(states, treaties)]
+    """All that can be seen of the registry behind these calls, and of what it goes back to and on to."""
+    probes = [ASKING, probe(states, treaties)]
     probes += [probe_offer(states, t, i) for t in range(treaties) for i in range(states)]
+    probes += [[("rt_back",)] * many + ASKING for many in (1, 2, 21)]
+    probes += [[("rt_again",)] * many + ASKING for many in (1, 2, 21)]
     return [ask(before + calls)[len(before):] for calls in probes]

@@ -4,7 +4,7 @@ import itertools
 import random
 import unittest
 
-from tests.helper import ask
+from tests.helper import ask, started
 
 
 def all_sets(states):
@@ -56,7 +56,7 @@ def wanted(offers, need):
 
 class AgainstSearch(unittest.TestCase):
     def check(self, states, offers, need):
-        line = [("rt_start", states), ("rt_treaty", need), ("rt_article", 0, 0, 0)]
+        line = started(states) + [("rt_treaty", need), ("rt_article", 0, 0, 0)]
         line += [("rt_offer", 0, i, offer[0], offer[1]) for i, offer in offers.items()]
         line += [("rt_joiners", 0), ("rt_waits", 0), ("rt_first", 0), ("rt_conclude", 0)]
         self.assertEqual(ask(line)[-4:], wanted(offers, need), (states, offers, need))
@@ -84,6 +84,16 @@ class AgainstSearch(unittest.TestCase):
                 named = drawn.randrange(16) & drawn.randrange(16) & ~(1 << i)
                 offers[i] = (drawn.choice((0, 1, 1, 2, 2, 3, 4)), named)
             self.check(4, offers, 2 + turn % 3)
+
+    def test_some_offers_of_five_and_six_states(self):
+        drawn = random.Random(6)
+        for turn in range(400):
+            states = 5 + turn % 2
+            offers = {}
+            for i in drawn.sample(range(states), drawn.choice((3, 4, 5, states))):
+                named = drawn.randrange(64) & drawn.randrange(64) & drawn.randrange(2 ** states) & ~(1 << i)
+                offers[i] = (drawn.choice((0, 1, 2, 3, 3, 4, 5, states)), named)
+            self.check(states, offers, 2 + turn // 2 % (states - 1))
 
 
 if __name__ == "__main__":

@@ -52,6 +52,10 @@ def bound_at_top(tree):
     return names
 
 
+def imported(tree):
+    return {each.name for node in defs(tree, ast.ImportFrom) for each in node.names}
+
+
 def bound_in(function):
     names = [each.arg for each in function.args.args]
     return names + [node.id for node in ast.walk(function) if isinstance(node, ast.Name)
@@ -108,10 +112,61 @@ class Forms(unittest.TestCase):
                 self.assertEqual(each.decorator_list, [])
                 self.assertEqual({type(node) for node in each.body}, {ast.FunctionDef})
 
+    def test_the_top_of_a_file(self):
+        for name, tree in trees():
+            above = set()
+            for node in tree.body[1:]:
+                self.assertIsInstance(node, (ast.ImportFrom, ast.FunctionDef, ast.ClassDef, ast.Assign))
+                if isinstance(node, ast.FunctionDef):
+                    above.add(node.name)
+                if isinstance(node, ast.Assign):
+                    for part in ast.walk(node.value):
+                        plain = (ast.Constant, ast.Tuple, ast.Dict, ast.List, ast.UnaryOp, ast.USub, ast.Load)
+                        known = isinstance(part, ast.Name) and part.id in above
+                        self.assertTrue(known or isinstance(part, plain), (name, node.lineno))
+                        if part != node.value:
+                            self.assertNotIsInstance(part, (ast.Dict, ast.List), (name, node.lineno))
+
     def test_imports(self):
-        drawn = {name: [node.module for node in defs(tree, ast.ImportFrom)] for name, tree in trees()}
-        self.assertEqual(drawn.pop("__init__.py"), [])
-        self.assertEqual(drawn, {"registry.py": ["treatyregistry.treaty"], "treaty.py": []})
+        drawn = {}
+        tops = {name: set(bound_at_top(tree)) - imported(tree) for name, tree in trees()}
+        for name, tree in trees():
+            rows = defs(tree, ast.ImportFrom)
+            self.assertEqual([row for row in rows if row not in tree.body or row.level], [])
+            drawn[name] = [row.module.split(".")[1] + ".py" for row in rows]
+            for row in rows:
+                self.assertEqual(row.module.split(".")[0], "treatyregistry")
+                self.assertEqual([each.asname for each in row.names], [None] * len(row.names))
+                self.assertLessEqual({each.name for each in row.names}, tops[row.module.split(".")[1] + ".py"])
+        self.assertEqual(drawn["__init__.py"], [])
+        # Files that draw from none are taken away, again and again: only a ring would be left.
+        while any(not rows for rows in drawn.values()):
+            free = [name for name, rows in drawn.items() if not rows]
+            drawn = {name: [row for row in rows if row not in free] for name, rows in drawn.items() if name not in free}
+        self.assertEqual(drawn, {})
+
+    def test_walked_at_once(self):
+        for name, tree in trees():
+            walked = [node.iter for node in defs(tree, (ast.For, ast.comprehension))]
+            for node in defs(tree, ast.Call):
+                if isinstance(node.func, ast.Name) and node.func.id in ("range", "zip", "enumerate", "reversed"):
+                    self.assertIn(node, walked, (name, node.lineno))
+
+    def test_is_stands_beside_none_alone(self):
+        for name, tree in trees():
+            for node in defs(tree, ast.Compare):
+                if any(isinstance(sign, (ast.Is, ast.IsNot)) for sign in node.ops):
+                    self.assertIsNone(node.comparators[0].value, (name, node.lineno))
+
+    def test_dicts_and_lists_of_the_top_are_only_read(self):
+        kept = {node.targets[0].id for name, tree in trees() for node in tree.body
+                if isinstance(node, ast.Assign) and isinstance(node.value, (ast.Dict, ast.List))}
+        for name, tree in trees():
+            read = [node.value for node in defs(tree, ast.Subscript) if isinstance(node.ctx, ast.Load)]
+            read += [node.comparators[0] for node in defs(tree, ast.Compare)]
+            for node in defs(tree, ast.Name):
+                if node.id in kept and isinstance(node.ctx, ast.Load):
+                    self.assertIn(node, read, (name, node.lineno))
 
     def test_calls_of_methods(self):
         own = {each.name for name, tree in trees() for each in defs(tree)}

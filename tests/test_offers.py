@@ -3,12 +3,11 @@
 import itertools
 import unittest
 
-from tests.helper import GREATEST, NUMBERS, ask, concluded, last, signed
-from treatyregistry.registry import Registry
+from tests.helper import GREATEST, ask, concluded, last, signed, started
 
 
 def laid_out(states, need=2):
-    return [("rt_start", states), ("rt_treaty", need), ("rt_article", 0, 0, 10)]
+    return started(states) + [("rt_treaty", need), ("rt_article", 0, 0, 10)]
 
 
 class Offer(unittest.TestCase):
@@ -24,14 +23,14 @@ class Offer(unittest.TestCase):
         self.assertEqual(last(line + [("rt_offer", 0, 1, 0, 0), ("rt_offer", 0, 0, 2, 0), ("rt_joiners", 0)]), [1, 2])
 
     def test_needs_as_many_as_there_are_states_at_most(self):
-        for n in (2, 3, 4):
+        for n in (2, 3, 4, 5, 6):
             for need in (0, 1, n - 1, n, n + 1, n + 2, GREATEST):
                 wanted = 0 if need <= n else -22
                 self.assertEqual(last(laid_out(n) + [("rt_offer", 0, 0, need, 0)]), [wanted], (n, need))
 
     def test_names_others_that_are_there(self):
         sets = list(range(70)) + [128, 256, 1 << 31, (1 << 31) + 1, GREATEST - 1, GREATEST]
-        for n in (2, 3, 4):
+        for n in (2, 3, 4, 5, 6):
             for i in range(n):
                 for named in sets:
                     right = named < 1 << n and not named >> i & 1
@@ -109,7 +108,8 @@ class WhoWouldJoin(unittest.TestCase):
         self.assertEqual(ask(line + [("rt_joiners", 0), ("rt_waits", 0)])[-2:], [[2, 9], [1, 4]])
 
     def test_whatever_order_they_offered_in(self):
-        offers = [("rt_offer", 0, 0, 2, 0), ("rt_offer", 0, 1, 0, 1), ("rt_offer", 0, 2, 1, 2), ("rt_offer", 0, 3, 4, 0)]
+        offers = [("rt_offer", 0, 0, 2, 0), ("rt_offer", 0, 1, 0, 1)]
+        offers += [("rt_offer", 0, 2, 1, 2), ("rt_offer", 0, 3, 4, 0)]
         questions = [("rt_joiners", 0), ("rt_waits", 0), ("rt_first", 0), ("rt_conclude", 0)]
         for order in itertools.permutations(offers):
             told = ask(laid_out(4) + list(order) + questions)[-4:]
@@ -189,15 +189,11 @@ class Conclude(unittest.TestCase):
         self.assertEqual(last(line + [("rt_offer", 0, 3, 0, 0), ("rt_conclude", 0)]), [4])
 
     def test_each_has_its_own_turn(self):
-        kept = Registry()
         line = signed(2, (0, 1)) + [("rt_treaty", 2)] + concluded((0, 1), t=2) + concluded((0, 1), t=3)
         line += [("rt_leave", 2, 0), ("rt_leave", 2, 1)] + concluded((0, 1), t=1)[1:]
-        turns = []
-        for call in line:
-            kept.answer(NUMBERS[call[0]], list(call[1:]))
-            turns.append([treaty.turn for treaty in kept.world.treaties])
-        self.assertEqual(turns[-1], [1, 4, 2, 3])
-        self.assertEqual(turns[-2], [1, 0, 2, 3])
+        turns = [("rt_members", t) for t in range(4)]
+        self.assertEqual([told[2] for told in ask(line + turns)[-4:]], [1, 4, 2, 3])
+        self.assertEqual([told[2] for told in ask(line[:-1] + turns)[-4:]], [1, 0, 2, 3])
 
 
 if __name__ == "__main__":

@@ -102,3 +102,29 @@ class Treaty:
         self.reserved[i] &= ~BITS[a]
         if self.reserved[i] == 0:
             self.drop_objections_to(i)
+
+    # State i doesn't object to itself, so it and the new one don't object to one another.
+    def take_after(self, new, i):
+        if self.is_member(i):
+            self.members |= BITS[new]
+        self.reserved[new] = self.reserved[i]
+        self.objected[new] = self.objected[i]
+        for j in range(len(BITS)):
+            if self.objects(j, i):
+                self.objected[j] |= BITS[new]
+
+    # Only a concluded treaty has members.
+    def between(self, i, j):
+        both = BITS[i] | BITS[j]
+        return self.members & both == both and not self.objects(i, j) and not self.objects(j, i)
+
+    def applies(self, i, j, a):
+        return self.between(i, j) and not self.has_reserved(i, a) and not self.has_reserved(j, a)
+
+    # The last article on subject s that applies between both, or None.
+    def last_applying(self, i, j, s):
+        found = None
+        for a, article in enumerate(self.articles):
+            if article[0] == s and self.applies(i, j, a):
+                found = a
+        return found
